@@ -1,0 +1,1 @@
+"""Great numbers as keys."""
