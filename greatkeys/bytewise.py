@@ -12,3 +12,8 @@ def number_of(row):
 def row_of(number, size):
     """The number as a row of size bytes."""
     return [(number >> 8 * place) & 255 for place in range(size - 1, -1, -1)]
+
+
+def exclusive_or(first, second):
+    """The exclusive or of two rows of the same length, byte by byte."""
+    return [one ^ other for one, other in zip(first, second)]

@@ -7,6 +7,10 @@ RS_KEY = 1
 RS_MAKE = 2
 RS_NUMBERS = 3
 RS_PRIME = 4
+RS_SIGN = 5
+RS_CHECK = 6
+RS_SEAL = 7
+RS_UNSEAL = 8
 
 
 class UnknownCall(ValueError):
@@ -32,6 +36,29 @@ def answer_prime(holder, reader):
     return holder.rs_prime(size, rounds, reader.take_row())
 
 
+def answer_sign(holder, reader):
+    kind = reader.take_number()
+    message = reader.take_row()
+    return holder.rs_sign(kind, message, reader.take_row())
+
+
+def answer_check(holder, reader):
+    kind = reader.take_number()
+    message = reader.take_row()
+    return holder.rs_check(kind, message, reader.take_row())
+
+
+def answer_seal(holder, reader):
+    label = reader.take_row()
+    message = reader.take_row()
+    return holder.rs_seal(label, message, reader.take_row())
+
+
+def answer_unseal(holder, reader):
+    label = reader.take_row()
+    return holder.rs_unseal(label, reader.take_row())
+
+
 def answer_call(holder, reader):
     """Reads one call, carries it out, and gives back what it answers."""
     call = reader.take_number()
@@ -43,6 +70,14 @@ def answer_call(holder, reader):
         return holder.rs_numbers()
     if call == RS_PRIME:
         return answer_prime(holder, reader)
+    if call == RS_SIGN:
+        return answer_sign(holder, reader)
+    if call == RS_CHECK:
+        return answer_check(holder, reader)
+    if call == RS_SEAL:
+        return answer_seal(holder, reader)
+    if call == RS_UNSEAL:
+        return answer_unseal(holder, reader)
     raise UnknownCall(f"there is no call {call}")
 
 

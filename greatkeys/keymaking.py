@@ -1,6 +1,6 @@
 """Keys, and what they are put together of."""
 
-from greatkeys.modular import common_multiple, inverse
+from greatkeys.modular import common_multiple, inverse, power
 from greatkeys.primes import taken_for_prime
 
 SIZES = (128, 256, 384, 512)
@@ -16,6 +16,15 @@ class Key:
         self.modulus = modulus
         self.exponent = exponent
         self.secret = secret
+
+    def is_open(self):
+        return self.secret == 0
+
+    def open_of(self, number):
+        return power(number, self.exponent, self.modulus)
+
+    def secret_of(self, number):
+        return power(number, self.secret, self.modulus)
 
 
 def is_size(size):

@@ -4,6 +4,7 @@ from greatkeys.desk import answers
 
 SIZES = (128, 256, 384, 512)
 NO_SIZES = (-2147483648, -128, -1, 0, 1, 64, 127, 129, 255, 257, 383, 385, 511, 513, 640, 1024, 2147483647)
+NO_KINDS = (-2147483648, -256, -2, -1, 2, 3, 128, 255, 256, 257, 65536, 2147483647)
 
 
 def row(number, size):
@@ -40,6 +41,32 @@ def prime(size, rounds, number):
 
 def prime_without_bytes(size, rounds):
     return [4, size, rounds, 0]
+
+
+def sign(kind, message, salt=bytes(32)):
+    return [5, kind] + counted(list(message)) + counted(list(salt))
+
+
+def check(kind, message, signature, filler=0):
+    return [6, kind] + counted(list(message)) + counted(filled(signature, filler))
+
+
+def seal(label, message, seed=bytes(32)):
+    return [7] + counted(list(label)) + counted(list(message)) + counted(list(seed))
+
+
+def unseal(label, sealed, filler=0):
+    return [8] + counted(list(label)) + counted(filled(sealed, filler))
+
+
+def filled(numbers, filler):
+    """The numbers, and as many fillers behind them as make 512 numbers."""
+    return list(numbers) + [filler] * (512 - len(numbers))
+
+
+def changed(row_of_bytes, place, bits=1):
+    """The bytes with some bits of one of them turned."""
+    return row_of_bytes[:place] + bytes([row_of_bytes[place] ^ bits]) + row_of_bytes[place + 1:]
 
 
 def ask(*calls):

@@ -100,3 +100,6 @@ PASSES_FORTY = int(
     "e27058522a259616576b56a6e6ff5f2c7316ee6937d9acab157e9a16fcf6e19a9d6bb203a2a08110c33ad6bca8f0e318"
     "fe201670f79e0daf8ac3ca53148f2bb77f635e216697bcd6072955c107d0a486e7555e738aee65094e0eef049684b864"
     "1d545dc8d4de52f379a29d91ba82232ca6f8fb1246350e2f4d16c62e23d72753", 16)
+
+# As long a message or label as a call may have.
+LONG = bytes(place % 253 for place in range(29000))

@@ -58,6 +58,25 @@ def bound_names(tree):
             yield node.asname or node.name
 
 
+def top_names(tree):
+    for node in tree.body:
+        if isinstance(node, (ast.FunctionDef, ast.ClassDef)):
+            yield node.name
+        elif isinstance(node, ast.Assign):
+            yield from (target.id for target in node.targets)
+        elif isinstance(node, ast.ImportFrom):
+            yield from (part.name for part in node.names)
+
+
+def drawn_from(tree):
+    """The files that a file imports from, each with the names."""
+    found = {}
+    for node in tree.body:
+        if isinstance(node, ast.ImportFrom):
+            found.setdefault(node.module.split(".")[1], []).extend(part.name for part in node.names)
+    return found
+
+
 class Language(unittest.TestCase):
     def test_files(self):
         for path in PACKAGE.rglob("*"):
@@ -114,6 +133,46 @@ class Language(unittest.TestCase):
                     self.assertEqual(node.level, 0)
                     self.assertRegex(node.module, r"^greatkeys\.\w+$")
                     self.assertTrue((PACKAGE / (node.module.split(".")[1] + ".py")).is_file())
+
+    def test_imports_come_from_where_the_name_is_defined(self):
+        by_file = {path.stem: tree for path, tree in zip(files(), trees())}
+        for tree in by_file.values():
+            for drawn, names in drawn_from(tree).items():
+                from_elsewhere = [name for more in drawn_from(by_file[drawn]).values() for name in more]
+                self.assertEqual(set(names) - (set(top_names(by_file[drawn])) - set(from_elsewhere)), set())
+
+    def test_no_two_files_draw_from_one_another(self):
+        left = {path.stem: set(drawn_from(tree)) for path, tree in zip(files(), trees())}
+        while left:
+            free = [name for name in left if not left[name] & set(left)]
+            self.assertNotEqual(free, [], f"a circle among {sorted(left)}")
+            for name in free:
+                left.pop(name)
+
+    def test_each_top_name_once_and_no_local_like_a_class_or_import(self):
+        for tree in trees():
+            names = list(top_names(tree))
+            self.assertEqual(len(names), len(set(names)))
+            taken = {node.name for node in tree.body if isinstance(node, ast.ClassDef)}
+            taken.update(name for more in drawn_from(tree).values() for name in more)
+            for function in ast.walk(tree):
+                if isinstance(function, ast.FunctionDef):
+                    inner = {node.arg for node in ast.walk(function) if isinstance(node, ast.arg)}
+                    inner.update(
+                        node.id for node in ast.walk(function)
+                        if isinstance(node, ast.Name) and isinstance(node.ctx, ast.Store))
+                    self.assertEqual(inner & taken, set(), function.name)
+
+    def test_no_name_is_a_method_and_a_value(self):
+        methods = set()
+        stored = set()
+        for tree in trees():
+            for node in ast.walk(tree):
+                if isinstance(node, ast.ClassDef):
+                    methods.update(part.name for part in node.body if isinstance(part, ast.FunctionDef))
+                elif isinstance(node, ast.Attribute) and isinstance(node.ctx, ast.Store):
+                    stored.add(node.attr)
+        self.assertEqual(methods & stored, set())
 
     def test_names(self):
         for tree in trees():
